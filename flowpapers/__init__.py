@@ -1,0 +1,1 @@
+"""Flowpapers: flows in the plane, with papers."""

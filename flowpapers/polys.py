@@ -1,0 +1,227 @@
+"""Polynomials of one letter t whose numbers are ratios."""
+
+from math import gcd, lcm
+
+from flowpapers.errors import BadNumber, BadRow
+from flowpapers.ratios import is_ratio, plus, share, times, told
+
+
+class Poly:
+    """The polynomial in t with these numbers for the powers 0, 1, 2, .. in this order."""
+
+    def __init__(self, numbers):
+        if not _is_row(numbers):
+            raise BadRow(numbers)
+        pairs = [told(number, "number") for number in numbers]
+        degree = _top_power([top for top, _ in pairs])
+        self.numbers = tuple(pairs[:degree + 1])
+
+    def __eq__(self, other):
+        return isinstance(other, Poly) and self.numbers == other.numbers
+
+    def __add__(self, other):
+        poly = _beside(other)
+        if poly is None:
+            return NotImplemented
+        return _sum(self, poly)
+
+    def __radd__(self, other):
+        poly = _beside(other)
+        if poly is None:
+            return NotImplemented
+        return _sum(poly, self)
+
+    def __sub__(self, other):
+        poly = _beside(other)
+        if poly is None:
+            return NotImplemented
+        return _sum(self, -poly)
+
+    def __rsub__(self, other):
+        poly = _beside(other)
+        if poly is None:
+            return NotImplemented
+        return _sum(poly, -self)
+
+    def __mul__(self, other):
+        poly = _beside(other)
+        if poly is None:
+            return NotImplemented
+        return _product(self, poly)
+
+    def __rmul__(self, other):
+        poly = _beside(other)
+        if poly is None:
+            return NotImplemented
+        return _product(poly, self)
+
+    def __neg__(self):
+        return Poly([(-top, bottom) for top, bottom in self.numbers])
+
+    def degree(self):
+        """The greatest power with a number other than 0, -1 if there is none."""
+        return len(self.numbers) - 1
+
+    def at(self, point):
+        """The value at a ratio, as a pair; BadNumber("point", point) for what is no ratio."""
+        top, bottom = told(point, "point")
+        tops, below = _whole(self)
+        # Each product is taken with a power of the bottom, so that all of them stay integers.
+        total, power = 0, 1
+        for number in reversed(tops):
+            total = total * top + number * power
+            power = power * bottom
+        return told((total * bottom, below * power), "value")
+
+    def slope(self):
+        """The Poly with k times the number of t ** k for the power k - 1."""
+        numbers = [times(power, number) for power, number in enumerate(self.numbers)]
+        return Poly(numbers[1:])
+
+
+def divided(one, other):
+    """The Polys (quotient, rest): one is quotient * other + rest, the rest of a lower degree than other."""
+    if other.degree() == -1:
+        raise BadNumber("divisor", 0)
+    tops, below = _whole(one)
+    other_tops, other_below = _whole(other)
+    quotient, rest, factor = _divided_whole(tops, other_tops)
+    divisor = factor * below
+    return (
+        Poly([share(number * other_below, divisor) for number in quotient]),
+        Poly([share(number, divisor) for number in rest]),
+    )
+
+
+def common(one, other):
+    """The Poly of the greatest degree that divides both, with the number 1 at its greatest power."""
+    found = _common_whole(_shortest(_whole(one)[0]), _shortest(_whole(other)[0]))
+    return Poly([share(number, found[-1]) for number in found])
+
+
+def _is_row(value):
+    """Whether any value is a tuple or list of ratios."""
+    return isinstance(value, (tuple, list)) and all([is_ratio(number) for number in value])
+
+
+def _beside(value):
+    """The Poly for which a value beside a sign stands, None if it stands for none."""
+    if isinstance(value, Poly):
+        return value
+    if is_ratio(value) and not isinstance(value, list):
+        return Poly((value,))
+    return None
+
+
+def _top_power(tops):
+    """The greatest index of an integer other than 0 in a row of integers, -1 if there is none."""
+    power = len(tops) - 1
+    while power >= 0 and tops[power] == 0:
+        power = power - 1
+    return power
+
+
+def _number(poly, power):
+    """The number of t ** power, also above the degree."""
+    return poly.numbers[power] if power < len(poly.numbers) else (0, 1)
+
+
+def _sum(one, other):
+    many = max(len(one.numbers), len(other.numbers))
+    return Poly([plus(_number(one, power), _number(other, power)) for power in range(many)])
+
+
+def _product(one, other):
+    tops, below = _whole(one)
+    other_tops, other_below = _whole(other)
+    found = [0] * (len(tops) + len(other_tops))
+    for power, top in enumerate(tops):
+        for step, other_top in enumerate(other_tops):
+            found[power + step] = found[power + step] + top * other_top
+    return Poly([(top, below * other_below) for top in found])
+
+
+def _whole(poly):
+    """The row of integers, and the integer above 0, of which poly is the first divided by the second."""
+    # Sums and products of integers need no common divisors on the way, so large numbers stay quick.
+    below = 1
+    for _, bottom in poly.numbers:
+        below = lcm(below, bottom)
+    return [top * (below // bottom) for top, bottom in poly.numbers], below
+
+
+def _divided_whole(tops, others):
+    """The rows quotient and rest, and an integer factor: factor * tops is quotient * others + rest.
+
+    All rows are of integers by ascending powers; the last one of others is not 0.
+    """
+    lead = others[-1]
+    quotient, rest, factor = [], list(tops), 1
+    while len(rest) >= len(others):
+        last = rest.pop()
+        divisor = gcd(last, lead)
+        scale, part = lead // divisor, last // divisor
+        shift = len(rest) + 1 - len(others)
+        rest = [scale * number for number in rest]
+        for power in range(len(others) - 1):
+            rest[shift + power] = rest[shift + power] - part * others[power]
+        quotient = [part] + [scale * number for number in quotient]
+        factor = factor * scale
+    return quotient, rest, factor
+
+
+def _shortest(tops):
+    """The row of integers without zeros at its end, divided by their greatest common divisor."""
+    kept = tops[:_top_power(tops) + 1]
+    divisor = 0
+    for number in kept:
+        divisor = gcd(divisor, number)
+    return [number // divisor for number in kept]
+
+
+def _common_whole(tops, others):
+    """The row of the greatest degree that divides both rows of integers, each made by _shortest."""
+    if not tops:
+        return others
+    if not others:
+        return tops
+    # Division by turns would make far longer numbers than the answer has. Instead, the value of the
+    # answer at an integer point is sought: it divides the greatest divisor of the values of both rows
+    # there. The point is more than twice as large as any zero of one row can be; therefore a row that
+    # is read off the digits of this divisor and divides both rows has the greatest degree. If none is
+    # read, the values share too much by chance: for all points that are large enough they do not.
+    point = 4 * min(_greatest(tops), _greatest(others)) + 64
+    while True:
+        divisor = gcd(_value_whole(tops, point), _value_whole(others, point))
+        found = _shortest(_digits_in(divisor, point))
+        if _is_multiple(tops, found) and _is_multiple(others, found):
+            return found
+        point = point * point
+
+
+def _greatest(tops):
+    return max([abs(number) for number in tops])
+
+
+def _value_whole(tops, point):
+    total = 0
+    for number in reversed(tops):
+        total = total * point + number
+    return total
+
+
+def _digits_in(number, base):
+    """The digits of an integer above 0, from the last one on, each from -base / 2 to base / 2."""
+    digits = []
+    while number != 0:
+        digit = number % base
+        if 2 * digit > base:
+            digit = digit - base
+        digits.append(digit)
+        number = (number - digit) // base
+    return digits
+
+
+def _is_multiple(tops, others):
+    """Whether nothing is left over when others divides tops."""
+    return _top_power(_divided_whole(tops, others)[1]) == -1

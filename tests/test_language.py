@@ -1,0 +1,151 @@
+"""The interface of DOC.md, and the rules of LANGUAGE.md that a short test can see."""
+
+import ast
+import builtins
+import importlib
+import inspect
+import pathlib
+import re
+import unittest
+import warnings
+
+PACKAGE = pathlib.Path(__file__).resolve().parent.parent / "flowpapers"
+
+# For each file its functions and classes with their arguments, and the listed methods of each class.
+INTERFACE = {
+    "errors": {
+        "FlowError": None, "BadText": ["column"], "BadLine": ["line", "column"], "BadNumber": ["what", "number"],
+        "BadRow": ["row"], "BadName": ["name"], "Shared": ["plane"], "NoRest": ["place"], "NotRound": None,
+        "NoName": ["name"], "TakenName": ["name"], "NotKept": ["promise", "witness"], "NothingToUndo": None,
+        "NothingToRedo": None,
+    },
+    "ratios": {
+        "is_ratio": ["value"], "told": ["value", "what"], "plus": ["one", "other"], "minus": ["one", "other"],
+        "times": ["one", "other"], "share": ["one", "other"], "lower": ["one", "other"], "floor_of": ["value"],
+        "ratio_text": ["value"],
+    },
+    "polys": {"Poly": ["numbers"], "divided": ["one", "other"], "common": ["one", "other"]},
+}
+
+METHODS = {
+    "Poly": {
+        "__init__": ["numbers"], "__eq__": ["other"], "__add__": ["other"], "__radd__": ["other"],
+        "__sub__": ["other"], "__rsub__": ["other"], "__mul__": ["other"], "__rmul__": ["other"], "__neg__": [],
+        "degree": [], "at": ["point"], "slope": [],
+    },
+}
+
+LIBRARY = {
+    "math": {"gcd", "lcm", "isqrt", "comb", "perm", "factorial"},
+    "itertools": {"product", "combinations", "permutations", "chain", "accumulate", "pairwise", "islice", "zip_longest"},
+    "heapq": {"heappush", "heappop", "heapify", "heapreplace", "heappushpop"},
+    "collections": {"defaultdict"},
+}
+
+BUILTINS = set("""
+    len range enumerate zip min max sum abs sorted reversed int str bool list tuple dict set isinstance ord repr any all
+    divmod iter next Exception ValueError TypeError KeyError IndexError LookupError ZeroDivisionError ArithmeticError
+    OverflowError RuntimeError NotImplementedError AttributeError StopIteration NotImplemented
+""".split())
+
+NODES_NOT_ALLOWED = (
+    ast.Global, ast.AsyncFunctionDef, ast.AsyncFor, ast.AsyncWith, ast.Await, ast.Div, ast.MatMult, ast.Import,
+)
+
+
+def files():
+    return sorted(PACKAGE.glob("*.py"))
+
+
+def trees():
+    return [(path.name, ast.parse(path.read_text())) for path in files()]
+
+
+class TestInterface(unittest.TestCase):
+
+    def test_each_name_is_defined_in_its_file(self):
+        for file, names in INTERFACE.items():
+            module = importlib.import_module("flowpapers." + file)
+            for name, arguments in names.items():
+                found = getattr(module, name)
+                self.assertEqual((found.__module__, found.__name__), (module.__name__, name))
+                if arguments is not None:
+                    self.assertEqual(list(inspect.signature(found).parameters), arguments, name)
+
+    def test_each_method_is_defined_in_its_class(self):
+        for file, names in INTERFACE.items():
+            module = importlib.import_module("flowpapers." + file)
+            for name in names:
+                for method, arguments in METHODS.get(name, {}).items():
+                    found = vars(getattr(module, name))[method]
+                    self.assertEqual(list(inspect.signature(found).parameters), ["self"] + arguments, method)
+
+
+class TestRules(unittest.TestCase):
+
+    def test_the_folder_has_plain_files_alone(self):
+        for path in PACKAGE.iterdir():
+            if path.name != "__pycache__":
+                self.assertTrue(path.is_file() and re.fullmatch(r"[a-z0-9_]+\.py", path.name), path.name)
+        self.assertTrue((PACKAGE / "__init__.py").is_file())
+
+    def test_characters_and_sizes(self):
+        for path in files():
+            data = path.read_bytes()
+            self.assertTrue(all(byte == 10 or 32 <= byte <= 126 for byte in data), path.name)
+            lines = data.decode().split("\n")
+            self.assertLessEqual(len(lines), 400, path.name)
+            self.assertLessEqual(max(len(line) for line in lines), 120, path.name)
+        for name, tree in trees():
+            for node in ast.walk(tree):
+                if isinstance(node, ast.FunctionDef):
+                    self.assertLessEqual(node.end_lineno - node.lineno + 1, 40, (name, node.name))
+
+    def test_no_warnings(self):
+        with warnings.catch_warnings():
+            warnings.simplefilter("error")
+            for path in files():
+                compile(path.read_text(), path.name, "exec")
+
+    def test_imports(self):
+        for name, tree in trees():
+            for node in ast.walk(tree):
+                if isinstance(node, ast.ImportFrom):
+                    self.assertEqual(node.level, 0, name)
+                    words = {alias.name for alias in node.names}
+                    self.assertFalse([alias for alias in node.names if alias.asname], name)
+                    if node.module in LIBRARY:
+                        self.assertLessEqual(words, LIBRARY[node.module], name)
+                    else:
+                        self.assert_own(node.module, words)
+
+    def assert_own(self, module, words):
+        folder, file = module.split(".")
+        self.assertEqual(folder, PACKAGE.name)
+        tree = ast.parse((PACKAGE / (file + ".py")).read_text())
+        defined = {node.name for node in tree.body if isinstance(node, (ast.FunctionDef, ast.ClassDef))}
+        defined |= {target.id for node in tree.body if isinstance(node, ast.Assign) for target in node.targets}
+        self.assertLessEqual(words, defined, module)
+
+    def test_builtins_and_statements(self):
+        for name, tree in trees():
+            for node in ast.walk(tree):
+                self.assertNotIsInstance(node, NODES_NOT_ALLOWED, name)
+                if isinstance(node, ast.Constant):
+                    self.assertNotIsInstance(node.value, (float, complex), name)
+                if isinstance(node, ast.Name) and isinstance(node.ctx, ast.Load) and hasattr(builtins, node.id):
+                    self.assertIn(node.id, BUILTINS, name)
+
+    def test_no_builtin_gets_another_meaning(self):
+        for name, tree in trees():
+            for node in ast.walk(tree):
+                if isinstance(node, ast.Name) and isinstance(node.ctx, ast.Store):
+                    self.assertFalse(hasattr(builtins, node.id), (name, node.id))
+                if isinstance(node, ast.arg):
+                    self.assertFalse(hasattr(builtins, node.arg), (name, node.arg))
+                if isinstance(node, ast.ClassDef):
+                    self.assertFalse(hasattr(builtins, node.name), (name, node.name))
+
+
+if __name__ == "__main__":
+    unittest.main()
