@@ -134,11 +134,15 @@ def _sum(one, other):
 def _product(one, other):
     tops, below = _whole(one)
     other_tops, other_below = _whole(other)
-    found = [0] * (len(tops) + len(other_tops))
-    for power, top in enumerate(tops):
-        for step, other_top in enumerate(other_tops):
-            found[power + step] = found[power + step] + top * other_top
-    return Poly([(top, below * other_below) for top in found])
+    many = len(tops) + len(other_tops)
+    return Poly([(_crossed(tops, other_tops, power), below * other_below) for power in range(many)])
+
+
+def _crossed(tops, others, power):
+    """The number of t ** power in the product of two rows of integers."""
+    first = max(0, power + 1 - len(others))
+    last = min(power + 1, len(tops))
+    return sum([tops[step] * others[power - step] for step in range(first, last)])
 
 
 def _whole(poly):

@@ -147,5 +147,61 @@ class TestRules(unittest.TestCase):
                     self.assertFalse(hasattr(builtins, node.name), (name, node.name))
 
 
+class TestOperators(unittest.TestCase):
+    """What an operator runs, and all that it calls in turn, changes nothing: stricter than L5 and L28 ask for."""
+
+    SIGNS = ("eq", "ne", "lt", "le", "gt", "ge", "add", "radd", "sub", "rsub", "mul", "rmul", "neg", "len", "str", "repr")
+
+    CHANGING = {"append", "clear", "extend", "insert", "pop", "remove", "reverse", "setdefault", "update", "sort", "add",
+                "discard"}
+
+    def setUp(self):
+        self.functions, self.methods = {}, {}
+        for _, tree in trees():
+            for node in tree.body:
+                if isinstance(node, ast.FunctionDef):
+                    self.functions.setdefault(node.name, []).append(node)
+                if isinstance(node, ast.ClassDef):
+                    for method in node.body:
+                        if isinstance(method, ast.FunctionDef):
+                            self.methods.setdefault(method.name, []).append(method)
+                            if method.name == "__init__":
+                                self.functions.setdefault(node.name, []).append(method)
+
+    def called(self, function):
+        found = []
+        for node in ast.walk(function):
+            if isinstance(node, ast.Call) and isinstance(node.func, ast.Name):
+                found += self.functions.get(node.func.id, [])
+            if isinstance(node, ast.Call) and isinstance(node.func, ast.Attribute):
+                found += self.methods.get(node.func.attr, [])
+        return found
+
+    def test_they_change_nothing(self):
+        todo = [method for sign in self.SIGNS for method in self.methods.get("__" + sign + "__", [])]
+        seen = []
+        while todo:
+            function = todo.pop()
+            if function not in seen:
+                seen.append(function)
+                todo += self.called(function)
+                self.assert_changes_nothing(function)
+        self.assertGreater(len(seen), 20)
+
+    def assert_changes_nothing(self, function):
+        where = (function.name, function.lineno)
+        held = {node.arg for node in ast.walk(function) if isinstance(node, ast.arg)}
+        held |= {node.id for node in ast.walk(function) if isinstance(node, ast.Name) and isinstance(node.ctx, ast.Store)}
+        for node in ast.walk(function):
+            self.assertNotIsInstance(node, (ast.AugAssign, ast.Delete, ast.Yield, ast.Nonlocal), where)
+            if isinstance(node, ast.Subscript):
+                self.assertIsInstance(node.ctx, ast.Load, where)
+            if isinstance(node, ast.Attribute) and not isinstance(node.ctx, ast.Load):
+                self.assertTrue(function.name == "__init__" and node.value.id == "self", where)
+            if isinstance(node, ast.Call):
+                name = node.func.attr if isinstance(node.func, ast.Attribute) else node.func.id
+                self.assertNotIn(name, self.CHANGING if isinstance(node.func, ast.Attribute) else held, where)
+
+
 if __name__ == "__main__":
     unittest.main()
