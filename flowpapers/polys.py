@@ -1,19 +1,21 @@
 """Polynomials of one letter t whose numbers are ratios."""
 
-from math import gcd, lcm
+from math import gcd
 
 from flowpapers.errors import BadNumber, BadRow
-from flowpapers.ratios import is_ratio, plus, share, times, told
+from flowpapers.kinds import is_row, is_strict_ratio
+from flowpapers.ratios import plus, share, times, told
+from flowpapers.wholes import top_power, whole_row
 
 
 class Poly:
     """The polynomial in t with these numbers for the powers 0, 1, 2, .. in this order."""
 
     def __init__(self, numbers):
-        if not _is_row(numbers):
+        if not is_row(numbers):
             raise BadRow(numbers)
         pairs = [told(number, "number") for number in numbers]
-        degree = _top_power([top for top, _ in pairs])
+        degree = top_power([top for top, _ in pairs])
         self.numbers = tuple(pairs[:degree + 1])
 
     def __eq__(self, other):
@@ -65,7 +67,7 @@ class Poly:
     def at(self, point):
         """The value at a ratio, as a pair; BadNumber("point", point) for what is no ratio."""
         top, bottom = told(point, "point")
-        tops, below = _whole(self)
+        tops, below = whole_row(self.numbers)
         # Each product is taken with a power of the bottom, so that all of them stay integers.
         total, power = 0, 1
         for number in reversed(tops):
@@ -83,8 +85,8 @@ def divided(one, other):
     """The Polys (quotient, rest): one is quotient * other + rest, the rest of a lower degree than other."""
     if other.degree() == -1:
         raise BadNumber("divisor", 0)
-    tops, below = _whole(one)
-    other_tops, other_below = _whole(other)
+    tops, below = whole_row(one.numbers)
+    other_tops, other_below = whole_row(other.numbers)
     quotient, rest, factor = _divided_whole(tops, other_tops)
     divisor = factor * below
     return (
@@ -95,30 +97,17 @@ def divided(one, other):
 
 def common(one, other):
     """The Poly of the greatest degree that divides both, with the number 1 at its greatest power."""
-    found = _common_whole(_shortest(_whole(one)[0]), _shortest(_whole(other)[0]))
+    found = _common_whole(_shortest(whole_row(one.numbers)[0]), _shortest(whole_row(other.numbers)[0]))
     return Poly([share(number, found[-1]) for number in found])
-
-
-def _is_row(value):
-    """Whether any value is a tuple or list of ratios."""
-    return isinstance(value, (tuple, list)) and all([is_ratio(number) for number in value])
 
 
 def _beside(value):
     """The Poly for which a value beside a sign stands, None if it stands for none."""
     if isinstance(value, Poly):
         return value
-    if is_ratio(value) and not isinstance(value, list):
+    if is_strict_ratio(value):
         return Poly((value,))
     return None
-
-
-def _top_power(tops):
-    """The greatest index of an integer other than 0 in a row of integers, -1 if there is none."""
-    power = len(tops) - 1
-    while power >= 0 and tops[power] == 0:
-        power = power - 1
-    return power
 
 
 def _number(poly, power):
@@ -132,8 +121,8 @@ def _sum(one, other):
 
 
 def _product(one, other):
-    tops, below = _whole(one)
-    other_tops, other_below = _whole(other)
+    tops, below = whole_row(one.numbers)
+    other_tops, other_below = whole_row(other.numbers)
     many = len(tops) + len(other_tops)
     return Poly([(_crossed(tops, other_tops, power), below * other_below) for power in range(many)])
 
@@ -143,15 +132,6 @@ def _crossed(tops, others, power):
     first = max(0, power + 1 - len(others))
     last = min(power + 1, len(tops))
     return sum([tops[step] * others[power - step] for step in range(first, last)])
-
-
-def _whole(poly):
-    """The row of integers, and the integer above 0, of which poly is the first divided by the second."""
-    # Sums and products of integers need no common divisors on the way, so large numbers stay quick.
-    below = 1
-    for _, bottom in poly.numbers:
-        below = lcm(below, bottom)
-    return [top * (below // bottom) for top, bottom in poly.numbers], below
 
 
 def _divided_whole(tops, others):
@@ -176,7 +156,7 @@ def _divided_whole(tops, others):
 
 def _shortest(tops):
     """The row of integers without zeros at its end, divided by their greatest common divisor."""
-    kept = tops[:_top_power(tops) + 1]
+    kept = tops[:top_power(tops) + 1]
     divisor = 0
     for number in kept:
         divisor = gcd(divisor, number)
@@ -228,4 +208,4 @@ def _digits_in(number, base):
 
 def _is_multiple(tops, others):
     """Whether nothing is left over when others divides tops."""
-    return _top_power(_divided_whole(tops, others)[1]) == -1
+    return top_power(_divided_whole(tops, others)[1]) == -1

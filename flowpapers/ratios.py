@@ -7,11 +7,11 @@ from flowpapers.errors import BadNumber
 
 def is_ratio(value):
     """Whether any value is an integer, or a tuple or list of two integers, the second one above 0."""
-    if _is_integer(value):
+    if is_integer(value):
         return True
     if not isinstance(value, (tuple, list)) or len(value) != 2:
         return False
-    return _is_integer(value[0]) and _is_integer(value[1]) and value[1] > 0
+    return is_integer(value[0]) and is_integer(value[1]) and value[1] > 0
 
 
 def told(value, what):
@@ -76,7 +76,8 @@ def ratio_text(value):
     return text + "/" + _digits(bottom)
 
 
-def _is_integer(value):
+def is_integer(value):
+    """Whether any value is an int that is not a bool."""
     return isinstance(value, int) and not isinstance(value, bool)
 
 

@@ -25,6 +25,24 @@ INTERFACE = {
         "ratio_text": ["value"],
     },
     "polys": {"Poly": ["numbers"], "divided": ["one", "other"], "common": ["one", "other"]},
+    "planes": {"Plane": ["rows"], "plane_of": ["text"], "plane_text": ["plane"]},
+    "stretches": {
+        "Split": ["root", "rest", "cuts"], "Below": ["at", "number"], "never_below": ["poly"], "is_split": ["poly", "told"],
+        "count_zeros": ["poly"], "zeros": ["poly", "bits"], "between": ["poly"],
+    },
+    "triangles": {
+        "corners": ["plane", "triangle", "degree"], "halved": ["triangle", "side"], "triangles": ["room"],
+        "Cover": ["trees"], "Under": ["place", "number"], "Near": [], "never_below_in": ["plane", "room", "bits"],
+        "is_cover": ["plane", "room", "told"],
+    },
+    "fields": {
+        "Field": ["p", "q"], "field_at": ["field", "place"], "slope_along": ["field", "plane"],
+        "slopes_along": ["field", "plane", "many"], "stream_out": ["field"], "bend_at": ["field", "place"],
+        "turned_back": ["field"], "changed": ["field", "matrix", "shift"], "series": ["field", "order"],
+        "unchanging": ["field", "degree"], "factor_of": ["field", "plane"], "products": ["field", "planes"],
+        "kept_lines": ["field", "slope"], "kept_uprights": ["field"],
+    },
+    "rooms": {"Room": ["corners", "holes"]},
 }
 
 METHODS = {
@@ -33,7 +51,24 @@ METHODS = {
         "__sub__": ["other"], "__rsub__": ["other"], "__mul__": ["other"], "__rmul__": ["other"], "__neg__": [],
         "degree": [], "at": ["point"], "slope": [],
     },
+    "Plane": {
+        "__init__": ["rows"], "__eq__": ["other"], "__add__": ["other"], "__radd__": ["other"],
+        "__sub__": ["other"], "__rsub__": ["other"], "__mul__": ["other"], "__rmul__": ["other"], "__neg__": [],
+        "degree": [], "at": ["point"], "slope_x": [], "slope_y": [], "along": ["start", "step"], "moved": ["matrix", "shift"],
+    },
+    "Field": {"__init__": ["p", "q"], "__eq__": ["other"]},
+    "Room": {"__init__": ["corners", "holes"], "has": ["place"], "area": []},
+    "Split": {"__init__": ["root", "rest", "cuts"]},
+    "Below": {"__init__": ["at", "number"]},
+    "Cover": {"__init__": ["trees"]},
+    "Under": {"__init__": ["place", "number"]},
 }
+
+# What may be left out, with its value.
+DEFAULTS = {("triangles", "corners"): {"degree": None}, ("rooms", "Room"): {"holes": ()}}
+
+# Classes for which == is described, in all modules so far.
+COMPARED = {"Poly", "Plane", "Field"}
 
 LIBRARY = {
     "math": {"gcd", "lcm", "isqrt", "comb", "perm", "factorial"},
@@ -70,7 +105,19 @@ class TestInterface(unittest.TestCase):
                 found = getattr(module, name)
                 self.assertEqual((found.__module__, found.__name__), (module.__name__, name))
                 if arguments is not None:
-                    self.assertEqual(list(inspect.signature(found).parameters), arguments, name)
+                    parameters = inspect.signature(found).parameters
+                    self.assertEqual(list(parameters), arguments, name)
+                    defaults = {key: parameter.default for key, parameter in parameters.items()
+                                if parameter.default is not inspect.Parameter.empty}
+                    self.assertEqual(defaults, DEFAULTS.get((file, name), {}), name)
+
+    def test_only_some_classes_compare(self):
+        for file, names in INTERFACE.items():
+            module = importlib.import_module("flowpapers." + file)
+            for name in names:
+                found = getattr(module, name)
+                if inspect.isclass(found):
+                    self.assertEqual(found.__eq__ is not object.__eq__, name in COMPARED, name)
 
     def test_each_method_is_defined_in_its_class(self):
         for file, names in INTERFACE.items():
@@ -136,9 +183,58 @@ class TestRules(unittest.TestCase):
                 if isinstance(node, ast.Name) and isinstance(node.ctx, ast.Load) and hasattr(builtins, node.id):
                     self.assertIn(node.id, BUILTINS, name)
 
+    def test_no_name_of_a_class_or_an_import_gets_another_meaning(self):
+        for name, tree in trees():
+            taken = {alias.name for node in tree.body if isinstance(node, ast.ImportFrom) for alias in node.names}
+            taken |= {node.name for node in tree.body if isinstance(node, ast.ClassDef)}
+            for node in ast.walk(tree):
+                if isinstance(node, ast.Name) and isinstance(node.ctx, ast.Store):
+                    self.assertNotIn(node.id, taken, name)
+                if isinstance(node, ast.arg):
+                    self.assertNotIn(node.arg, taken, name)
+                if isinstance(node, ast.FunctionDef):
+                    self.assertNotIn(node.name, taken, name)
+
+    def test_no_two_functions_have_one_name(self):
+        found = [node.name for _, tree in trees() for node in tree.body if isinstance(node, ast.FunctionDef)]
+        self.assertEqual(sorted(found), sorted(set(found)))
+
+    def test_what_is_imported_is_used(self):
+        for name, tree in trees():
+            used = {node.id for node in ast.walk(tree) if isinstance(node, ast.Name)}
+            for node in tree.body:
+                if isinstance(node, ast.ImportFrom):
+                    for alias in node.names:
+                        self.assertIn(alias.name, used, name)
+
+    def test_no_two_files_import_one_another(self):
+        after = {}
+        for name, tree in trees():
+            after[name[:-3]] = {node.module.split(".")[1] for node in tree.body
+                                if isinstance(node, ast.ImportFrom) and node.module.startswith("flowpapers.")}
+        while after:
+            last = [name for name, needed in after.items() if not needed & set(after)]
+            self.assertTrue(last, after)
+            after = {name: needed for name, needed in after.items() if name not in last}
+
+    def test_exponents_and_signs_that_change(self):
+        for name, tree in trees():
+            for node in ast.walk(tree):
+                self.assertNotIsInstance(node, (ast.AugAssign, ast.GeneratorExp, ast.Try, ast.Lambda), name)
+                if isinstance(node, ast.BinOp) and isinstance(node.op, ast.Pow):
+                    self.assertIsInstance(node.right, ast.Constant, name)
+                if isinstance(node, ast.Call):
+                    for argument in node.args:
+                        if isinstance(argument, ast.Starred):
+                            self.fail((name, node.lineno))
+                if isinstance(node, ast.Constant) and isinstance(node.value, str):
+                    self.assertNotIn("%", node.value, name)
+
     def test_no_builtin_gets_another_meaning(self):
         for name, tree in trees():
             for node in ast.walk(tree):
+                if isinstance(node, ast.FunctionDef) and not node.name.startswith("__"):
+                    self.assertFalse(hasattr(builtins, node.name), (name, node.name))
                 if isinstance(node, ast.Name) and isinstance(node.ctx, ast.Store):
                     self.assertFalse(hasattr(builtins, node.id), (name, node.id))
                 if isinstance(node, ast.arg):

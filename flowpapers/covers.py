@@ -1,0 +1,104 @@
+"""Trees of halved triangles, and the search for those on which all corners of a Plane are from 0 on."""
+
+from heapq import heappop, heappush
+
+from flowpapers.kinds import is_from
+from flowpapers.nets import halved_net, lines_of, most_bent, tips_of
+
+
+def is_tree(value):
+    """Whether any value is the empty tuple, or (side, one, other) with two trees."""
+    todo = [value]
+    while todo:
+        tree = todo.pop()
+        if not isinstance(tree, tuple) or len(tree) not in (0, 3):
+            return False
+        if tree:
+            if not is_from(tree[0], 0, 2):
+                return False
+            todo.extend(tree[1:])
+    return True
+
+
+def is_covered(net, degree, tree):
+    """Whether all corners are from 0 on on all triangles to which a tree leads."""
+    sides, tips = lines_of(degree), tips_of(degree)
+    todo = [(net, tree)]
+    while todo:
+        net, tree = todo.pop()
+        # What is from 0 on stays so on each part; values at tips stay corners of some part.
+        if min(net) < 0:
+            if not tree or min([net[tip] for tip in tips]) < 0:
+                return False
+            first, second = halved_net(net, sides[tree[0]], degree)
+            todo.append((first, tree[1]))
+            todo.append((second, tree[2]))
+    return True
+
+
+def searched(nets, below, degree, bits):
+    """For triangles with these nets, all over one bottom: one of
+
+    (trees, None): one tree for each, such that all corners are from 0 on on all triangles to which they lead;
+    (None, (index, path, tip)): which triangle, which (side, half) from there on, and which corner of the last one
+    has a value below 0;
+    (None, None): the least value lies from -gap to gap.
+    """
+    sides, tips = lines_of(degree), tips_of(degree)
+    nodes = [(net, below, None) for net in nets]
+    cuts, queue, is_near, fresh = {}, [], False, 0
+    while True:
+        for place in range(fresh, len(nodes)):
+            net, bottom, _ = nodes[place]
+            values = [net[tip] for tip in tips]
+            if min(values) < 0:
+                return None, _way(nodes, cuts, place, values.index(min(values)))
+            is_near = is_near or (min(values) << bits) <= bottom
+            if min(net) < 0:
+                heappush(queue, _rank(min(net), bottom, bits, place))
+        if not queue:
+            return _trees(cuts, len(nodes), len(nets)), None
+        rank, _, place = heappop(queue)
+        # The least corner of all stands first. If it is from -gap on, so are all values.
+        if is_near and rank == 1:
+            return None, None
+        fresh = len(nodes)
+        _halve(nodes, cuts, place, sides, degree)
+
+
+def _rank(least, bottom, bits, place):
+    """The row by which triangles are taken: those with a corner below -gap first, then the lowest ones."""
+    is_low = (least << bits) < -bottom
+    return 0 if is_low else 1, (least << 64) // bottom, place
+
+
+def _halve(nodes, cuts, place, sides, degree):
+    """Appends both halves of a triangle to nodes, and notes its side and the index of the first half."""
+    net, bottom, ahead = nodes[place]
+    side = most_bent(net, sides)
+    cuts[place] = (side, len(nodes))
+    for half in halved_net(net, sides[side], degree):
+        nodes.append((half, bottom << degree, place))
+    # Nets are long, and this one is used no more.
+    nodes[place] = ((), bottom, ahead)
+
+
+def _trees(cuts, many, roots):
+    """The trees of the first triangles, made from the last halves on."""
+    found = [()] * many
+    for place in reversed(range(many)):
+        if place in cuts:
+            side, half = cuts[place]
+            found[place] = (side, found[half], found[half + 1])
+    return tuple(found[:roots])
+
+
+def _way(nodes, cuts, place, tip):
+    """How the triangle with this index is come to."""
+    path = []
+    while nodes[place][2] is not None:
+        ahead = nodes[place][2]
+        side, half = cuts[ahead]
+        path.append((side, place - half))
+        place = ahead
+    return place, path[::-1], tip
