@@ -36,8 +36,8 @@ def is_covered(net, degree, tree):
     return True
 
 
-def searched(nets, below, degree, bits):
-    """For triangles with these nets, all over one bottom: one of
+def searched(nets, degree, bits):
+    """For triangles with these pairs (net, bottom): one of
 
     (trees, None): one tree for each, such that all corners are from 0 on on all triangles to which they lead;
     (None, (index, path, tip)): which triangle, which (side, half) from there on, and which corner of the last one
@@ -45,7 +45,7 @@ def searched(nets, below, degree, bits):
     (None, None): the least value lies from -gap to gap.
     """
     sides, tips = lines_of(degree), tips_of(degree)
-    nodes = [(net, below, None) for net in nets]
+    nodes = [(net, bottom, None) for net, bottom in nets]
     cuts, queue, is_near, fresh = {}, [], False, 0
     while True:
         for place in range(fresh, len(nodes)):

@@ -1,7 +1,7 @@
 """Fields, and what their flows keep."""
 
 from flowpapers.errors import BadNumber, BadRow
-from flowpapers.kinds import is_from, is_place, is_row_of, kept, pair_of
+from flowpapers.kinds import held, is_from, is_place, is_row_of, pair_of
 from flowpapers.lowest import lowest_form
 from flowpapers.planes import Plane
 from flowpapers.polys import Poly, common, divided
@@ -14,8 +14,8 @@ class Field:
     """The field x' = p(x, y), y' = q(x, y) of two Planes."""
 
     def __init__(self, p, q):
-        self.p = kept(p)
-        self.q = kept(q)
+        self.p = held(p)
+        self.q = held(q)
 
     def __eq__(self, other):
         return isinstance(other, Field) and self.p == other.p and self.q == other.q

@@ -48,6 +48,6 @@ def check_bits(bits):
         raise BadNumber("bits", bits)
 
 
-def kept(value):
+def held(value):
     """A value as an object keeps it: just as it is, but a list as a tuple."""
     return tuple(value) if isinstance(value, list) else value

@@ -2,7 +2,7 @@
 
 from flowpapers.corner_rows import corner_row, corner_row_on, halves
 from flowpapers.errors import BadNumber
-from flowpapers.kinds import check_bits, is_strict_ratio, kept, pair_of
+from flowpapers.kinds import check_bits, held, is_strict_ratio, pair_of
 from flowpapers.polys import Poly, common, divided
 from flowpapers.ratios import lower, plus, times
 from flowpapers.spots import closer, is_inside, ratio_in, spots, value_at
@@ -13,17 +13,17 @@ class Split:
     """A polynomial is rest * root * root, and from one cut to the next all corners of rest are from 0 on."""
 
     def __init__(self, root, rest, cuts):
-        self.root = kept(root)
-        self.rest = kept(rest)
-        self.cuts = kept(cuts)
+        self.root = held(root)
+        self.rest = held(rest)
+        self.cuts = held(cuts)
 
 
 class Below:
     """A polynomial has this number below 0 at a ratio from 0 to 1."""
 
     def __init__(self, at, number):
-        self.at = kept(at)
-        self.number = kept(number)
+        self.at = held(at)
+        self.number = held(number)
 
 
 def never_below(poly):

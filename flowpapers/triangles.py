@@ -1,10 +1,8 @@
 """Signs of polynomials of two letters at all points of a room."""
 
-from math import lcm
-
 from flowpapers.covers import is_covered, is_tree, searched
 from flowpapers.errors import BadNumber, BadRow
-from flowpapers.kinds import check_bits, is_from, is_place, kept, pair_of, place_of
+from flowpapers.kinds import check_bits, held, is_from, is_place, pair_of, place_of
 from flowpapers.nets import net_of
 from flowpapers.ratios import minus, plus, times
 from flowpapers.strips import triangles_of
@@ -14,15 +12,15 @@ class Cover:
     """On each triangle to which these trees lead all corners are from 0 on."""
 
     def __init__(self, trees):
-        self.trees = kept(trees)
+        self.trees = held(trees)
 
 
 class Under:
     """A Plane has this number below 0 at a place of the room."""
 
     def __init__(self, place, number):
-        self.place = kept(place)
-        self.number = kept(number)
+        self.place = held(place)
+        self.number = held(number)
 
 
 class Near:
@@ -63,8 +61,8 @@ def never_below_in(plane, room, bits):
     """A Cover or an Under of plane on a room, or Near; BadNumber("bits", bits)."""
     check_bits(bits)
     found = triangles(room)
-    nets, below = _nets(plane, found)
-    trees, under = searched(nets, below, max(plane.degree(), 0), bits)
+    degree = max(plane.degree(), 0)
+    trees, under = searched([net_of(plane, triangle, degree) for triangle in found], degree, bits)
     if trees is not None:
         return Cover(trees)
     if under is None:
@@ -88,16 +86,6 @@ def is_cover(plane, room, told):
         if not is_covered(net_of(plane, triangle, degree)[0], degree, tree):
             return False
     return True
-
-
-def _nets(plane, found):
-    """The nets of plane on triangles, all over one bottom."""
-    degree = max(plane.degree(), 0)
-    nets = [net_of(plane, triangle, degree) for triangle in found]
-    below = 1
-    for _, bottom in nets:
-        below = lcm(below, bottom)
-    return [[number * (below // bottom) for number in net] for net, bottom in nets], below
 
 
 def _told_triangle(value):

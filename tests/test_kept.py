@@ -118,6 +118,21 @@ class TestUnchanging(FieldCase):
         for one in found:
             self.assert_plane(slope_along(rotated(plane), one), {})
 
+    def test_numbers_that_are_hard_for_remainders(self):
+        # 2424833 divides 2 ** 512 + 1, and 45592577 divides 2 ** 1024 + 1.
+        for number in (2424833, 45592577, 2424833 * 45592577, 2 ** 512 + 1, (2 ** 512 + 1) * (2 ** 1024 + 1), 2 ** 512, 2 ** 4000 + 3):
+            turn = Field(Plane(((0, number),)), Plane(((), (-1,))))
+            self.assertEqual([plane.rows for plane in unchanging(turn, 3)],
+                             [Plane(((0, 0, number), (), (1,))).rows])
+            turn = Field(Plane(((0, 1),)), Plane(((), ((-1, number),))))
+            self.assertEqual([plane.rows for plane in unchanging(turn, 2)],
+                             [Plane(((0, 0, number), (), (1,))).rows])
+            field = Field(Plane(((), (number,))), Plane(((0, -1),)))
+            x, y = plane_of("x"), plane_of("y")
+            self.assertEqual(products(field, (x, y)), (((1, 1), (number, 1)),))
+            self.assertEqual(products(field, (y, x)), (((1, 1), (1, number)),))
+            self.assertEqual(products(Field(field.p, Plane(())), (x,)), ())
+
     def test_bad_degrees(self):
         for degree in (-1, 7, 10 ** 30) + NO_INTEGERS:
             self.assert_bad_number("degree", degree, lambda: unchanging(field_of("x", "y"), degree))

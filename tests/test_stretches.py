@@ -38,6 +38,7 @@ KEPT = (
     T + TINY, 1 - T + TINY, power(GOLDEN, 2) * power(ROOT_3, 2), power(line(3, 2), 3) * -1, line(-1, 5) * NEVER,
     power(line(1, 9), 12), T * (1 - T) * power(ROOT_2, 2) * power(ROOT_3, 2) * (1, 3), Poly((0, 0, 0, 1, -1)),
     power(line(1, 3), 2) * (power(HALF, 2) + TINY) * (power(line(1, 5), 2) + (1, 10 ** 30)),
+    T * (power(HALF, 2) + TINY), (1 - T) * (power(HALF, 2) + TINY), T * (1 - T) * (power(line(1, 3), 2) + TINY),
 )
 
 # Polynomials that are below 0 somewhere from 0 to 1.
@@ -48,6 +49,7 @@ BROKEN = (
     power(HALF, 2) * line(1, 4), power(HALF, 2) * line(1, 2), -power(HALF * line(1, 4) * line(3, 4), 2), -power(T, 12),
     power(HALF, 2) * (power(HALF, 2) - (1, 10 ** 40)), -(T * (1 - T)), power(line(1, 3), 5) * power(line(1, 2), 4),
     power(line(1, 2) * line(1, 4) * line(3, 4) * line(1, 8), 2) * line(1, 3), HALF * ROOT_2, -NEVER,
+    T * (power(HALF, 2) - TINY), (1 - T) * (power(line(1, 3), 2) - TINY), T * (1 - T) * -1,
 )
 
 
@@ -152,6 +154,8 @@ class TestIsSplit(StretchCase):
             self.assertIs(is_split(poly, Split(root, rest, cuts)), True, (root.numbers, rest.numbers, cuts))
         self.assertIs(is_split(Poly(()), Split(Poly(()), Poly((1, 1)), ())), True)
         self.assertIs(is_split(Poly(()), Split(Poly((1, -7)), Poly(()), ((1, 2),))), True)
+        for root, rest in ((Poly(()), Poly((1,))), (Poly(()), T * T), (Poly(()), Poly(())), (Poly((1,)), Poly(())), (T * T, Poly(()))):
+            self.assertIs(is_split(Poly(()), Split(root, rest, ())), True)
         self.assertIs(is_split(Poly(()), Split(Poly(()), -T, ())), False)
         self.assertIs(is_split(Poly((1,)), Split(Poly(()), Poly((1,)), ())), False)
         self.assertIs(is_split(Poly(()), Split(Poly((1,)), Poly((1,)), ())), False)
@@ -220,6 +224,10 @@ class TestZeros(StretchCase):
         (HALF * line(10 ** 12 + 1, 2 * 10 ** 12), ((Fraction(1, 2), 1), (Fraction(10 ** 12 + 1, 2 * 10 ** 12), 1))),
         (line(5, 7) * (5 * T * T * 10 ** 10 - 1) * power(line(5, 8), 2),
          ((5 * T * T * 10 ** 10 - 1, 1), (Fraction(5, 8), 2), (Fraction(5, 7), 1))),
+        # Ratios that a straight line between two ends just misses, and what lies just below a ratio.
+        (Poly((-9, 0, 64)), ((Fraction(3, 8), 1),)), (Poly((9, 0, -64)) * T, ((Fraction(0), 1), (Fraction(3, 8), 1))),
+        (Poly((-25, 0, 0, 0, 256)), ((Poly((-5, 0, 16)), 1),)), (Poly((-27, 0, 0, 512)), ((Fraction(3, 8), 1),)),
+        (Poly((-1, 2)) * Poly((-10, 20, 1)), ((Poly((-10, 20, 1)), 1), (Fraction(1, 2), 1))),
         (Poly((0, -1, 0, 2)), ((Fraction(0), 1), (ROOT_2, 1))), ((ROOT_2 * HALF) * (1, 9), ((Fraction(1, 2), 1), (ROOT_2, 1))),
     )
 
