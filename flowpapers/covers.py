@@ -3,7 +3,7 @@
 from heapq import heappop, heappush
 
 from flowpapers.kinds import is_from
-from flowpapers.nets import halved_net, lines_of, most_bent, tips_of
+from flowpapers.nets import bends_of, halved_net, lines_of, most_bent, tips_of
 
 
 def is_tree(value):
@@ -45,6 +45,7 @@ def searched(nets, degree, bits):
     (None, None): the least value lies from -gap to gap.
     """
     sides, tips = lines_of(degree), tips_of(degree)
+    bends = bends_of(sides)
     nodes = [(net, bottom, None) for net, bottom in nets]
     cuts, queue, is_near, fresh = {}, [], False, 0
     while True:
@@ -63,7 +64,9 @@ def searched(nets, degree, bits):
         if is_near and rank == 1:
             return None, None
         fresh = len(nodes)
-        _halve(nodes, cuts, place, sides, degree)
+        side = most_bent(nodes[place][0], bends)
+        cuts[place] = (side, fresh)
+        _halve(nodes, place, sides[side], degree)
 
 
 def _rank(least, bottom, bits, place):
@@ -72,12 +75,10 @@ def _rank(least, bottom, bits, place):
     return 0 if is_low else 1, (least << 64) // bottom, place
 
 
-def _halve(nodes, cuts, place, sides, degree):
-    """Appends both halves of a triangle to nodes, and notes its side and the index of the first half."""
+def _halve(nodes, place, lines, degree):
+    """Appends both halves of a triangle to nodes, its side with these lines being halved."""
     net, bottom, ahead = nodes[place]
-    side = most_bent(net, sides)
-    cuts[place] = (side, len(nodes))
-    for half in halved_net(net, sides[side], degree):
+    for half in halved_net(net, lines, degree):
         nodes.append((half, bottom << degree, place))
     # Nets are long, and this one is used no more.
     nodes[place] = ((), bottom, ahead)

@@ -46,16 +46,15 @@ def halved_net(net, lines, degree):
     return first, second
 
 
-def most_bent(net, sides):
-    """The side along whose lines the net bends up most: there its least corner lies lowest below its values."""
-    found, most = 0, 0
-    for side, lines in enumerate(sides):
-        for line in lines:
-            row = [net[place] for place in line]
-            bent = max([a - 2 * b + c for a, b, c in zip(row, row[1:], row[2:])], default=0)
-            if bent > most:
-                found, most = side, bent
-    return found
+def bends_of(sides):
+    """For each side all triples of indices that stand next to one another along one of its lines."""
+    return [[triple for line in lines for triple in zip(line, line[1:], line[2:])] for lines in sides]
+
+
+def most_bent(net, bends):
+    """The side along whose lines the net bends up most: there corners lie lowest below the values."""
+    most = [max([net[a] - 2 * net[b] + net[c] for a, b, c in triples], default=0) for triples in bends]
+    return most.index(max(most))
 
 
 def _corner(rows, degree, j, k):
