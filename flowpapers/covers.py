@@ -6,18 +6,60 @@ from flowpapers.kinds import is_from
 from flowpapers.nets import bends_of, halved_net, lines_of, most_bent, tips_of
 
 
-def is_tree(value):
-    """Whether any value is the empty tuple, or (side, one, other) with two trees."""
+def is_tree(value, may_have_lists=False):
+    """Whether any value is the empty tuple, or (side, one, other) with two trees; lists stand for tuples if told."""
     todo = [value]
     while todo:
         tree = todo.pop()
-        if not isinstance(tree, tuple) or len(tree) not in (0, 3):
+        if not isinstance(tree, tuple) and not (may_have_lists and isinstance(tree, list)):
+            return False
+        if len(tree) not in (0, 3):
             return False
         if tree:
             if not is_from(tree[0], 0, 2):
                 return False
             todo.extend(tree[1:])
     return True
+
+
+def are_trees(value, many):
+    """Whether any value is a tuple or list of so many trees, lists standing for tuples also within it."""
+    if not isinstance(value, (tuple, list)) or len(value) != many:
+        return False
+    return all([is_tree(tree, True) for tree in value])
+
+
+def leaves_of(nets, degree, tree):
+    """For each triangle to which a tree leads, in order: the nets there, how often it was halved, and its path.
+
+    nets are those on the first triangle, all for one degree; each halving multiplies them by 2 ** degree. A path
+    is the empty tuple, or (side, half, path) with the path of the triangle that was halved.
+    """
+    sides = lines_of(degree)
+    found = []
+    todo = [(nets, 0, (), tree)]
+    while todo:
+        nets, depth, path, tree = todo.pop()
+        if not tree:
+            found.append((nets, depth, path))
+        else:
+            side, one, other = tree
+            pairs = [halved_net(net, sides[side], degree) for net in nets]
+            todo.append(([second for _, second in pairs], depth + 1, (side, 1, path), other))
+            todo.append(([first for first, _ in pairs], depth + 1, (side, 0, path), one))
+    return found
+
+
+def net_along(net, degree, path):
+    """The net on the triangle with this path, from the net on the first triangle."""
+    steps = []
+    while path:
+        side, half, path = path
+        steps.append((side, half))
+    sides = lines_of(degree)
+    for side, half in reversed(steps):
+        net = halved_net(net, sides[side], degree)[half]
+    return net
 
 
 def is_covered(net, degree, tree):
@@ -58,7 +100,7 @@ def searched(nets, degree, bits):
             if min(net) < 0:
                 heappush(queue, _rank(min(net), bottom, bits, place))
         if not queue:
-            return _trees(cuts, len(nodes), len(nets)), None
+            return trees_from(cuts, len(nodes), len(nets)), None
         rank, _, place = heappop(queue)
         # The least corner of all stands first. If it is from -gap on, so are all values.
         if is_near and rank == 1:
@@ -84,7 +126,7 @@ def _halve(nodes, place, lines, degree):
     nodes[place] = ((), bottom, ahead)
 
 
-def _trees(cuts, many, roots):
+def trees_from(cuts, many, roots):
     """The trees of the first triangles, made from the last halves on."""
     found = [()] * many
     for place in reversed(range(many)):

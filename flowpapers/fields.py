@@ -100,9 +100,9 @@ def unchanging(field, degree):
     """
     if not is_from(degree, 0, 6):
         raise BadNumber("degree", degree)
-    powers = [(total - j, j) for total in range(1, degree + 1) for j in range(total + 1)]
-    slopes = [slope_along(field, _power(i, j)) for i, j in powers]
-    return tuple([_plane_of_powers(powers, row) for row in lowest_form(_equations(slopes), len(powers))])
+    powers = powers_to(1, degree)
+    slopes = [slope_along(field, power_plane(i, j)) for i, j in powers]
+    return tuple([plane_of_powers(powers, row) for row in lowest_form(equations_of(slopes), len(powers))])
 
 
 def factor_of(field, plane):
@@ -134,7 +134,7 @@ def products(field, planes):
         if factor is None:
             raise BadNumber("plane", index)
         factors.append(factor)
-    return lowest_form(_equations(factors), len(factors))
+    return lowest_form(equations_of(factors), len(factors))
 
 
 def kept_lines(field, slope):
@@ -153,18 +153,24 @@ def kept_uprights(field):
     return _common_zeros([[row[j] if j < len(row) else 0 for row in field.p.rows] for j in range(wide)])
 
 
-def _power(i, j):
+def power_plane(i, j):
     """The Plane x ** i * y ** j."""
     return Plane([()] * i + [[0] * j + [1]])
 
 
-def _plane_of_powers(powers, row):
+def powers_to(least, most):
+    """The pairs (i, j) with a sum from least to most: by their sums, of equal sums the greater i first."""
+    return [(total - j, j) for total in range(least, most + 1) for j in range(total + 1)]
+
+
+def plane_of_powers(powers, row):
+    """The Plane with the numbers of a row at these powers."""
     numbers = {power: number for power, number in zip(powers, row)}
     many = range(max([i + j for i, j in powers]) + 1)
     return Plane([[numbers.get((i, j), 0) for j in many] for i in many])
 
 
-def _equations(planes):
+def equations_of(planes):
     """For each power a row with its number in each of the planes."""
     many = range(max([len(plane.rows) for plane in planes], default=0))
     wide = range(max([len(row) for plane in planes for row in plane.rows], default=0))

@@ -42,6 +42,11 @@ def is_strict_ratio(value):
     return is_ratio(value) and not isinstance(value, list)
 
 
+def is_strict_place(value):
+    """Whether any value is a tuple of two ratios, both as where a function judges a value."""
+    return isinstance(value, tuple) and len(value) == 2 and all([is_strict_ratio(number) for number in value])
+
+
 def check_bits(bits):
     """BadNumber("bits", bits) for what is no number of bits."""
     if not is_from(bits, 0, 60):

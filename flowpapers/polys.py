@@ -7,6 +7,8 @@ from flowpapers.kinds import is_row, is_strict_ratio
 from flowpapers.ratios import plus, share, times, told
 from flowpapers.wholes import top_power, whole_row
 
+PRIME = 2305843009213693951
+
 
 class Poly:
     """The polynomial in t with these numbers for the powers 0, 1, 2, .. in this order."""
@@ -156,7 +158,7 @@ def _divided_whole(tops, others):
 
 def _shortest(tops):
     """The row of integers without zeros at its end, divided by their greatest common divisor."""
-    kept = tops[:top_power(tops) + 1]
+    kept = _cut(tops)
     divisor = 0
     for number in kept:
         divisor = gcd(divisor, number)
@@ -169,6 +171,8 @@ def _common_whole(tops, others):
         return others
     if not others:
         return tops
+    if _are_strangers(tops, others):
+        return [1]
     # Division by turns would make far longer numbers than the answer has. Instead, the value of the
     # answer at an integer point is sought: it divides the greatest divisor of the values of both rows
     # there. The point is more than twice as large as any zero of one row can be; therefore a row that
@@ -181,6 +185,30 @@ def _common_whole(tops, others):
         if _is_multiple(tops, found) and _is_multiple(others, found):
             return found
         point = point * point
+
+
+def _are_strangers(tops, others):
+    """Whether division by turns, with remainders of integers by a prime alone, comes to a number other than 0.
+
+    Then no row of a degree of 1 or more divides both: its remainders would divide those of both.
+    """
+    if tops[-1] % PRIME == 0 or others[-1] % PRIME == 0:
+        return False
+    one, other = [number % PRIME for number in tops], [number % PRIME for number in others]
+    while len(other) > 1:
+        if len(one) < len(other):
+            one, other = other, one
+        lead, last, shift = other[-1], one[-1], len(one) - len(other)
+        less = [(lead * number - last * further) % PRIME for number, further in zip(one[shift:], other)]
+        one = _cut([lead * number % PRIME for number in one[:shift]] + less)
+        if len(one) < len(other):
+            one, other = other, one
+    return len(other) == 1
+
+
+def _cut(tops):
+    """The row without zeros at its end."""
+    return tops[:top_power(tops) + 1]
 
 
 def _greatest(tops):

@@ -68,7 +68,7 @@ def zeros(poly, bits):
     check_bits(bits)
     rows = []
     for tops, often, spot in found:
-        one, other = _ends(tops, spot, bits)
+        one, other = ends_of(tops, spot, bits)
         rows.append((one, other, often))
     return tuple(rows)
 
@@ -207,7 +207,7 @@ def _factor_at(factors, spot):
     return factors[-1]
 
 
-def _ends(tops, spot, bits):
+def ends_of(tops, spot, bits):
     """The zero twice, if it is a ratio, otherwise the two multiples of 2 ** -bits around it."""
     k, m, is_zero = closer(tops, spot, max(bits, abs(tops[-1]).bit_length()))
     found = (k, 1 << m) if is_zero else ratio_in(tops, k, m)

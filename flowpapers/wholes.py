@@ -49,3 +49,26 @@ def _joined(parts):
         return top + other, bottom
     below = lcm(bottom, other_bottom)
     return top * (below // bottom) + other * (below // other_bottom), below
+
+
+def row_product(one, other):
+    """The product of two polynomials that are rows of integers by ascending powers."""
+    many = len(one) + len(other) - 1 if one and other else 0
+    return [
+        sum([one[k] * other[power - k] for k in range(max(0, power + 1 - len(other)), min(power + 1, len(one)))])
+        for power in range(many)
+    ]
+
+
+def row_sum(parts):
+    """The sum of rows of integers, each times its factor: parts are pairs (factor, row)."""
+    many = max([len(row) for _, row in parts], default=0)
+    return [sum([factor * row[power] for factor, row in parts if power < len(row)]) for power in range(many)]
+
+
+def row_powers(row, many):
+    """The powers number 0 to many of a polynomial that is a row of integers."""
+    found = [[1]]
+    for _ in range(many):
+        found.append(row_product(found[-1], row))
+    return found

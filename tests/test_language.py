@@ -42,7 +42,44 @@ INTERFACE = {
         "unchanging": ["field", "degree"], "factor_of": ["field", "plane"], "products": ["field", "planes"],
         "kept_lines": ["field", "slope"], "kept_uprights": ["field"],
     },
-    "rooms": {"Room": ["corners", "holes"]},
+    "rooms": {
+        "Room": ["corners", "holes"], "side_flow": ["field", "room", "side"], "kept": ["field", "room"], "Kept": ["papers"],
+        "Out": ["side", "at", "number"], "is_kept": ["field", "room", "told"], "kept_until": ["field", "other", "room", "bits"],
+        "Until": ["number", "kept", "out"], "turning": ["field", "places", "bits"], "Turn": ["number"], "AtRest": ["side", "low", "high"],
+    },
+    "rests": {
+        "rests": ["field", "room", "bits"], "Rest": ["x", "y", "det", "trace", "on_side"], "kind_at": ["field", "place"],
+        "focus": ["field", "place"], "winding": ["corners", "place"],
+    },
+    "linear": {
+        "kind": ["matrix"], "Kind": ["trace", "determinant", "word"], "slope_of_form": ["matrix", "form"],
+        "form_for": ["matrix", "falls"], "Falling": ["form"], "Staying": ["form"],
+        "least_room": ["matrix", "shift", "directions", "points"], "LeastRoom": ["numbers", "shares"], "NoRoom": ["shares"],
+        "is_least_room": ["matrix", "shift", "directions", "points", "told"], "common_form": ["one", "other"], "Common": ["form"],
+        "Apart": ["way", "t"], "is_common": ["one", "other", "told"],
+    },
+    "norests": {
+        "no_rest": ["field", "room", "bits"], "Restless": ["trees", "pairs"], "Rested": ["rest"], "is_restless": ["field", "room", "told"],
+        "rising": ["field", "room", "trees", "degree"], "Rising": ["plane"], "NotRising": ["shares"],
+        "is_rising": ["field", "room", "trees", "degree", "told"], "leaves_within": ["field", "room", "trees", "plane"],
+    },
+    "cycles": {
+        "ring_cycle": ["field", "room", "bits"], "Leaves": ["ahead", "back"], "Cycle": ["is_back", "kept", "restless"],
+        "is_ring_cycle": ["field", "room", "told"], "most_cycles": ["field", "room", "factor", "bits"],
+        "AtMost": ["many", "sign", "cover"], "Changes": ["above", "below"], "Nothing": [], "is_most": ["field", "room", "factor", "told"],
+        "factor_on": ["field", "room", "trees", "degree"], "Factor": ["plane"], "NoFactor": ["shares"],
+        "is_factor": ["field", "room", "trees", "degree", "told"],
+        "barrier": ["field", "room", "plane", "factor", "start", "goal", "e", "bits"], "Barrier": ["start", "goal", "inside"],
+        "Fails": ["which", "point"], "Unsure": ["which"],
+        "is_barrier": ["field", "room", "plane", "factor", "start", "goal", "e", "told"],
+    },
+    "tubes": {
+        "range_on": ["plane", "box"], "stays": ["field", "box", "time", "room"], "first_room": ["field", "box", "time", "bits"],
+        "after": ["field", "box", "time", "room", "order", "bits"], "tube": ["field", "box", "time", "count", "order", "bits"],
+        "Tube": ["rooms", "boxes"], "Lost": ["index", "boxes"], "is_tube": ["field", "box", "time", "order", "told"],
+        "misses": ["told", "goal"], "ends_in": ["told", "goal"],
+    },
+    "desk": {"Desk": ["text"]},
 }
 
 METHODS = {
@@ -62,12 +99,17 @@ METHODS = {
     "Below": {"__init__": ["at", "number"]},
     "Cover": {"__init__": ["trees"]},
     "Under": {"__init__": ["place", "number"]},
+    "Desk": {
+        "__init__": ["text"], "put": ["text"], "drop": ["name"], "rename": ["name", "new"], "keep": ["promise"], "release": ["promise"],
+        "attempt": ["action"], "trial": ["action"], "undo": [], "redo": [], "lines": [], "names": [], "promises": [], "get": ["name"],
+        "kept": ["promise"], "broken": [], "__enter__": [], "__exit__": ["kind", "value", "trace"],
+    },
 }
 
 # What may be left out, with its value.
-DEFAULTS = {("triangles", "corners"): {"degree": None}, ("rooms", "Room"): {"holes": ()}}
+DEFAULTS = {("triangles", "corners"): {"degree": None}, ("rooms", "Room"): {"holes": ()}, ("desk", "Desk"): {"text": ""}}
 
-# Classes for which == is described, in all modules so far.
+# Classes for which == is described.
 COMPARED = {"Poly", "Plane", "Field"}
 
 LIBRARY = {
@@ -220,7 +262,7 @@ class TestRules(unittest.TestCase):
     def test_exponents_and_signs_that_change(self):
         for name, tree in trees():
             for node in ast.walk(tree):
-                self.assertNotIsInstance(node, (ast.AugAssign, ast.GeneratorExp, ast.Try, ast.Lambda), name)
+                self.assertNotIsInstance(node, (ast.AugAssign, ast.GeneratorExp, ast.Lambda), name)
                 if isinstance(node, ast.BinOp) and isinstance(node.op, ast.Pow):
                     self.assertIsInstance(node.right, ast.Constant, name)
                 if isinstance(node, ast.Call):
@@ -241,6 +283,86 @@ class TestRules(unittest.TestCase):
                     self.assertFalse(hasattr(builtins, node.arg), (name, node.arg))
                 if isinstance(node, ast.ClassDef):
                     self.assertFalse(hasattr(builtins, node.name), (name, node.name))
+
+
+class TestCalls(unittest.TestCase):
+    """Rules L6, L17, L19, L20, L23, L25, L26, as far as a short test can see."""
+
+    METHODS_OF_VALUES = set("""
+        append clear copy count endswith extend find get index insert isalnum isalpha isdigit islower isspace isupper items join keys
+        ljust lower lstrip partition pop remove replace reverse rfind rjust rpartition rsplit rstrip setdefault split splitlines
+        startswith strip update upper values zfill bit_length add discard
+    """.split())
+
+    ATTRIBUTES = {"count", "index", "title", "find", "get", "join", "lower", "upper", "split", "strip", "copy", "add"}
+
+    NOT_USED = set("""
+        register mro elements open input law version_info with_traceback add_note type typing enum Enum Flag Generic Protocol ABC
+        namedtuple NamedTuple TypedDict abstractmethod exec eval compile globals locals vars dir id help exit quit delattr super
+    """.split())
+
+    AT_ONCE = {"list", "tuple", "dict", "sorted", "sum", "any", "all", "enumerate", "zip", "min", "max", "reversed"}
+
+    def test_methods_and_attributes(self):
+        own = {node.name for _, tree in trees() for part in ast.walk(tree) if isinstance(part, ast.ClassDef)
+               for node in part.body if isinstance(node, ast.FunctionDef)}
+        taken = {name for kind in (str, int, list, dict, set, bytes, tuple) for name in dir(kind)} - self.ATTRIBUTES
+        for name, tree in trees():
+            for node in ast.walk(tree):
+                if isinstance(node, ast.Call) and isinstance(node.func, ast.Attribute):
+                    self.assertIn(node.func.attr, self.METHODS_OF_VALUES | own, (name, node.lineno))
+                    self.assertFalse(node.keywords, (name, node.lineno))
+                if isinstance(node, ast.Attribute) and isinstance(node.ctx, ast.Store):
+                    self.assertNotIn(node.attr, taken, (name, node.lineno))
+
+    def test_names_that_are_not_used(self):
+        for name, tree in trees():
+            for node in ast.walk(tree):
+                words = [getattr(node, key, None) for key in ("id", "arg", "attr", "name")]
+                self.assertFalse(self.NOT_USED & {word for word in words if isinstance(word, str)}, name)
+
+    def test_is(self):
+        for name, tree in trees():
+            for node in ast.walk(tree):
+                if isinstance(node, ast.Compare):
+                    for sign, value in zip(node.ops, node.comparators):
+                        if isinstance(sign, (ast.Is, ast.IsNot)):
+                            self.assertTrue(isinstance(value, ast.Constant) and value.value in (None, True, False), (name, node.lineno))
+
+    def test_iterated_at_once(self):
+        for name, tree in trees():
+            above = {child: node for node in ast.walk(tree) for child in ast.iter_child_nodes(node)}
+            for node in ast.walk(tree):
+                if isinstance(node, ast.Call) and isinstance(node.func, ast.Name) and node.func.id in ("zip", "enumerate", "reversed", "range"):
+                    around = above[node]
+                    is_at_once = isinstance(around, (ast.For, ast.comprehension)) or (
+                        isinstance(around, ast.Call) and isinstance(around.func, ast.Name) and around.func.id in self.AT_ONCE)
+                    # A range alone may be kept under a name.
+                    is_kept = node.func.id == "range" and isinstance(around, ast.Assign) and isinstance(around.targets[0], ast.Name)
+                    self.assertTrue(is_at_once or is_kept, (name, node.lineno))
+
+    def test_tries(self):
+        own = set(INTERFACE["errors"])
+        for name, tree in trees():
+            for node in ast.walk(tree):
+                if isinstance(node, ast.Try):
+                    for handler in node.handlers:
+                        self.assertIn(handler.type.id, own, (name, node.lineno))
+                        self.assertIsInstance(handler.body[-1], ast.Raise)
+                    for row in node.finalbody:
+                        self.assert_simple(row, (name, row.lineno))
+                if isinstance(node, ast.FunctionDef) and node.name == "__exit__":
+                    self.assertEqual([type(row) for row in node.body], [ast.Assign])
+                    self.assertIsInstance(node.body[0].value, ast.Attribute)
+
+    def assert_simple(self, row, where):
+        if isinstance(row, ast.If):
+            self.assertTrue(isinstance(row.test, ast.Compare) and isinstance(row.test.ops[0], (ast.Is, ast.IsNot)), where)
+            for inner in row.body + row.orelse:
+                self.assert_simple(inner, where)
+        else:
+            self.assertIsInstance(row, ast.Assign, where)
+            self.assertIsInstance(row.value, (ast.Name, ast.Attribute), where)
 
 
 class TestOperators(unittest.TestCase):
