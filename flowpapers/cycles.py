@@ -1,17 +1,16 @@
 """Cycles of fields in rooms, and barriers that no flow passes."""
 
-from flowpapers.covers import are_trees
-from flowpapers.errors import BadNumber, BadRow
+from flowpapers.errors import BadNumber
 from flowpapers.fields import (
     Field, plane_of_powers, power_plane, powers_to, slope_along, stream_out, turned_back,
 )
 from flowpapers.kinds import check_bits, held, is_from, is_strict_place, pair_of
 from flowpapers.leaves import are_barring, are_from_1, sum_or_shares
-from flowpapers.norests import Rested, is_restless, most_degree, no_rest
+from flowpapers.norests import Rested, check_trees, is_restless, most_degree, no_rest
 from flowpapers.planes import Plane
 from flowpapers.ratios import is_ratio, lower
 from flowpapers.rooms import Kept, Out, is_kept, kept_or_out
-from flowpapers.triangles import Cover, Near, Under, is_cover, never_below_in, triangles
+from flowpapers.triangles import Cover, Near, Under, is_cover, never_below_in
 
 
 class Leaves:
@@ -147,7 +146,7 @@ def is_most(field, room, factor, told):
 
 def factor_on(field, room, trees, degree):
     """A Factor of at most this degree, or a NoFactor; BadRow(trees), BadNumber("degree", degree)."""
-    _check_given_trees(room, trees, degree)
+    check_trees(room, trees, degree, 0)
     powers = powers_to(0, degree)
     streams = [_stream_times(field, power_plane(i, j)) for i, j in powers]
     numbers, shares = sum_or_shares(streams, _stream_degree(field, degree), room, trees)
@@ -156,7 +155,7 @@ def factor_on(field, room, trees, degree):
 
 def is_factor(field, room, trees, degree, told):
     """Whether told, any value, is a Factor or a NoFactor that is right; errors as of factor_on."""
-    _check_given_trees(room, trees, degree)
+    check_trees(room, trees, degree, 0)
     many = _stream_degree(field, degree)
     if isinstance(told, NoFactor):
         streams = [_stream_times(field, power_plane(i, j)) for i, j in powers_to(0, degree)]
@@ -195,14 +194,6 @@ def _check_ring(room):
     """BadNumber("holes", many) unless the room has one hole."""
     if len(room.holes) != 1:
         raise BadNumber("holes", len(room.holes))
-
-
-def _check_given_trees(room, trees, degree):
-    """BadRow(trees), BadNumber("degree", degree) for what factor_on does not take."""
-    if not are_trees(trees, len(triangles(room))):
-        raise BadRow(trees)
-    if not is_from(degree, 0, 6):
-        raise BadNumber("degree", degree)
 
 
 def _check_gap(e):

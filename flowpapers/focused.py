@@ -1,6 +1,7 @@
 """Focus numbers of rests."""
 
 from flowpapers.fields import Field, equations_of, power_plane, slope_along
+from flowpapers.kinds import pair_of
 from flowpapers.lowest import lowest_form
 from flowpapers.planes import Plane
 from flowpapers.ratios import lower, minus, times
@@ -20,7 +21,7 @@ def focus_at(field, place):
     # What the slope has in terms of degree 4, less the focus number times start * start, is made up by a last part.
     given = slope_along(second, cube) + slope_along(third, start)
     planes = [given, -(start * start)] + [slope_along(first, one) for one in squares]
-    return lowest_form(equations_of(planes), 7)[0][1]
+    return pair_of(lowest_form(equations_of(planes), 7)[0][1])
 
 
 def _start(field):

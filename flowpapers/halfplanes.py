@@ -44,7 +44,7 @@ def parted(nets, degree, weak):
         # Nets are long, and this one is used no more.
         nodes[place] = None
         if pair is not None:
-            pairs.append(pair)
+            pairs.append(((pair[0], 1), (pair[1], 1)))
         else:
             side = _most_bent_side(one, other, bends)
             first = len(nodes)

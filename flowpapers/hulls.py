@@ -4,16 +4,18 @@ from math import gcd
 
 from flowpapers.ratios import plus, share, times
 from flowpapers.shares import Table
-from flowpapers.wholes import whole_row
+
+# Rows with longer numbers than of so many bits seldom have a common divisor that is worth to be sought.
+LONG = 2000
 
 
 def numbers_or_shares(rows):
-    """For rows of as many pairs each: one of
+    """For rows of as many ratios each, told as pairs (integers, integer by which to divide them): one of
 
     (numbers, None): as many ratios; for each row the sum of the products with them is at least 1;
     (None, shares): pairs (index, share), ascending, shares above 0 that add up to 1; so often the rows make zeros.
     """
-    scaled = [_shortest_whole(row) for row in rows]
+    scaled = [_shortest_whole(tops, below) for tops, below in rows]
     columns = [tops for tops, _ in scaled]
     signs = [-1 if number > 0 else 1 for number in columns[0]]
     table = _table(columns, signs)
@@ -28,9 +30,10 @@ def numbers_or_shares(rows):
     return None, _shares(table, [scale for _, scale in scaled])
 
 
-def _shortest_whole(row):
-    """The shortest row of integers, and the ratio above 0, of which a row of pairs is the first times the second."""
-    tops, below = whole_row(row)
+def _shortest_whole(tops, below):
+    """A short row of integers, and the ratio above 0, of which a row is the first times the second."""
+    if max([abs(number) for number in tops]).bit_length() > LONG:
+        return tops, (1, below)
     divisor = 0
     for number in tops:
         divisor = gcd(divisor, number)
@@ -39,11 +42,15 @@ def _shortest_whole(row):
 
 
 def _table(columns, signs):
-    """The table of these columns, each with a 1 behind it, and of what may be missing at each place, at a cost."""
+    """The table of these columns, each with a number of its size behind it, and of what may be missing, at a cost."""
     many = len(signs)
+    lengths = [max([abs(number) for number in column]).bit_length() for column in columns]
+    behind = [1 << (length - min(lengths)) for length in lengths]
     sizes = [max([abs(column[at]) for column in columns]).bit_length() for at in range(many)]
     missing = [[1 if k == at else 0 for k in range(many + 1)] for at in range(many + 1)]
-    full = [[sign * number for sign, number in zip(signs, column)] + [1] for column in columns]
+    full = [
+        [sign * number for sign, number in zip(signs, column)] + [last] for column, last in zip(columns, behind)
+    ]
     # What is missing at places with small numbers costs more.
     costs = [0] * len(columns) + [1 << (max(sizes) - size) for size in sizes] + [1 << max(sizes)]
     used = list(range(len(columns), len(columns) + many + 1))

@@ -3,30 +3,33 @@
 from flowpapers.covers import leaves_of
 from flowpapers.hulls import numbers_or_shares
 from flowpapers.kinds import is_strict_ratio, pair_of
-from flowpapers.nets import net_of
+from flowpapers.nets import nets_of
 from flowpapers.ratios import is_integer, lower, minus, plus, times
 from flowpapers.triangles import triangles
 
 
 def leaf_corners(planes, degree, room, trees):
-    """For each triangle of the trees and each of its corners, in order, the row of the values of all planes there."""
+    """For each triangle of the trees and each of its corners, in order: the values of all planes there.
+
+    They are told as a row of integers and an integer above 0 by which all of them are to be divided.
+    """
     found = []
     for triangle, tree in zip(triangles(room), trees):
-        nets = [net_of(plane, triangle, degree) for plane in planes]
-        for leaf, depth, _ in leaves_of([net for net, _ in nets], degree, tree):
-            belows = [below << (degree * depth) for _, below in nets]
-            found.extend([[(net[at], below) for net, below in zip(leaf, belows)] for at in range(len(leaf[0]))])
+        nets, bottom = nets_of(planes, triangle, degree)
+        for leaf, depth, _ in leaves_of(nets, degree, tree):
+            below = bottom << (degree * depth)
+            found.extend([([net[at] for net in leaf], below) for at in range(len(leaf[0]))])
     return found
 
 
 def are_from_1(plane, degree, room, trees):
     """Whether all corners of a Plane are at least 1."""
-    return not any([row[0][0] < row[0][1] for row in leaf_corners([plane], degree, room, trees)])
+    return not any([row[0] < below for row, below in leaf_corners([plane], degree, room, trees)])
 
 
 def span_of(plane, room, trees):
     """The greatest less the least one of all corners of a Plane for its own degree."""
-    numbers = [pair_of(row[0]) for row in leaf_corners([plane], max(plane.degree(), 0), room, trees)]
+    numbers = [pair_of((row[0], below)) for row, below in leaf_corners([plane], max(plane.degree(), 0), room, trees)]
     least, most = numbers[0], numbers[0]
     for number in numbers:
         least = number if lower(number, least) else least
@@ -59,7 +62,8 @@ def are_barring(told, planes, degree, room, trees):
             return False
         ahead = at
         total = plus(total, number)
-        sums = [plus(one, times(number, pair)) for one, pair in zip(sums, rows[at])]
+        row, below = rows[at]
+        sums = [plus(one, times(number, (top, below))) for one, top in zip(sums, row)]
     return total == (1, 1) and not any([top for top, _ in sums])
 
 

@@ -92,9 +92,9 @@ def form_for(matrix, falls):
         raise BadRow(falls)
     slopes = [slope_of(found, unit) for unit in UNITS]
     if trace_of(found)[0] == 0 or determinant_of(found)[0] == 0:
-        return Staying(lowest_form(list(zip(slopes[0], slopes[1], slopes[2])), 3)[0])
+        return Staying(row_of(lowest_form(list(zip(slopes[0], slopes[1], slopes[2])), 3)[0], 3))
     # The fall, once, and the slopes of the three units, as often as the form has them, add up to 0.
-    return Falling(lowest_form(list(zip(fall, slopes[0], slopes[1], slopes[2])), 4)[0][1:])
+    return Falling(row_of(lowest_form(list(zip(fall, slopes[0], slopes[1], slopes[2])), 4)[0][1:], 3))
 
 
 def least_room(matrix, shift, directions, points):

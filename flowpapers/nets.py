@@ -3,21 +3,35 @@
 The triples (i, j, k) with i + j + k = degree stand with i descending, and for the same i with j descending.
 """
 
-from math import factorial, perm
+from math import comb, factorial, gcd
 
 from flowpapers.corner_rows import halves
-from flowpapers.ratios import minus
-from flowpapers.wholes import whole_rows
+from flowpapers.planes import moved_whole
+from flowpapers.wholes import bottom_of, whole_row
 
 
 def net_of(plane, triangle, degree):
     """The net on a triangle of places, and its bottom; degree is not below that of plane."""
-    (a, b), (c, d), (e, f) = triangle
-    steps = (minus(c, a), minus(e, a), minus(d, b), minus(f, b))
-    # With v and w for the shares of the second and the third corner: powers of both become corners.
-    rows, below = whole_rows(plane.moved(steps, (a, b)).rows)
-    net = [_corner(rows, degree, r - k, k) for r in range(degree + 1) for k in range(r + 1)]
-    return net, below * factorial(degree)
+    (net,), bottom = nets_of([plane], triangle, degree)
+    return net, bottom
+
+
+def nets_of(planes, triangle, degree):
+    """The nets of several Planes, all over the same bottom, and this bottom."""
+    (a, b, c, d, e, f), stretch = whole_row([number for place in triangle for number in place])
+    below = bottom_of([number for plane in planes for row in plane.rows for number in row])
+    found = []
+    for plane in planes:
+        rows = [[top * (below // bottom) for top, bottom in row] for row in plane.rows]
+        # With v and w for the shares of the second and the third corner: powers of both become corners.
+        numbers, scale = moved_whole(rows, (c - a, e - a, a), (d - b, f - b, b), stretch, degree)
+        found.append(_net(numbers, degree))
+    bottom = below * scale * factorial(degree)
+    shared = bottom
+    for net in found:
+        for number in net:
+            shared = gcd(shared, number)
+    return [[number // shared for number in net] for net in found], bottom // shared
 
 
 def lines_of(degree):
@@ -57,13 +71,23 @@ def most_bent(net, bends):
     return most.index(max(most))
 
 
-def _corner(rows, degree, j, k):
-    """The corner (degree - j - k, j, k), times the factorial of degree."""
-    return sum([
-        number * perm(j, v) * perm(k, w) * factorial(degree - v - w)
-        for v, row in enumerate(rows[:j + 1])
-        for w, number in enumerate(row[:k + 1])
-    ])
+def _net(numbers, degree):
+    """The corners, times the factorial of degree, of the powers of v and w with these numbers, a dict."""
+    ways = [[comb(many, some) for some in range(many + 1)] for many in range(degree + 1)]
+    rows = [
+        [
+            numbers.get((v, w), 0) * factorial(v) * factorial(w) * factorial(degree - v - w)
+            for v in range(degree + 1 - w)
+        ]
+        for w in range(degree + 1)
+    ]
+    mixed = [
+        [sum([way * number for way, number in zip(ways[j], row)]) for j in range(len(row))] for row in rows
+    ]
+    return [
+        sum([way * mixed[w][r - k] for w, way in enumerate(ways[k])])
+        for r in range(degree + 1) for k in range(r + 1)
+    ]
 
 
 def _index(r, k):

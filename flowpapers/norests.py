@@ -10,6 +10,7 @@ from flowpapers.nets import net_of
 from flowpapers.planes import Plane
 from flowpapers.rests import rests
 from flowpapers.triangles import triangles
+from flowpapers.wholes import whole_row
 
 
 class Restless:
@@ -61,13 +62,13 @@ def is_restless(field, room, told):
         return False
     if not all([is_strict_place(pair) for pair in told.pairs]):
         return False
-    degree, first = most_degree(field), 0
+    degree, weak, first = most_degree(field), weak_direction(field.p, field.q), 0
     for triangle, tree in zip(found, told.trees):
         leaves = leaves_of(_net_pair(field, triangle, degree), degree, tree)
         if first + len(leaves) > len(told.pairs):
             return False
         for (nets, _, path), pair in zip(leaves, told.pairs[first:]):
-            if not _is_above_on(field, triangle, nets, path, pair):
+            if not _is_above_on(field, triangle, nets, path, pair, weak):
                 return False
         first = first + len(leaves)
     return first == len(told.pairs)
@@ -75,7 +76,7 @@ def is_restless(field, room, told):
 
 def rising(field, room, trees, degree):
     """A Rising of at most this degree, or a NotRising; BadRow(trees), BadNumber("degree", degree)."""
-    _check_trees(room, trees, degree)
+    check_trees(room, trees, degree, 1)
     powers = powers_to(1, degree)
     many = degree - 1 + most_degree(field)
     numbers, shares = sum_or_shares(_slopes(field, powers), many, room, trees)
@@ -84,7 +85,7 @@ def rising(field, room, trees, degree):
 
 def is_rising(field, room, trees, degree, told):
     """Whether told, any value, is what rising describes; errors as of rising."""
-    _check_trees(room, trees, degree)
+    check_trees(room, trees, degree, 1)
     many = degree - 1 + most_degree(field)
     if isinstance(told, NotRising):
         return are_barring(told.shares, _slopes(field, powers_to(1, degree)), many, room, trees)
@@ -110,11 +111,11 @@ def most_degree(field):
     return max(field.p.degree(), field.q.degree(), 0)
 
 
-def _check_trees(room, trees, degree):
-    """BadRow(trees), BadNumber("degree", degree) for what rising does not take."""
+def check_trees(room, trees, degree, least):
+    """BadRow(trees) for what are no trees of a room, BadNumber("degree", degree) for no integer from least to 6."""
     if not are_trees(trees, len(triangles(room))):
         raise BadRow(trees)
-    if not is_from(degree, 1, 6):
+    if not is_from(degree, least, 6):
         raise BadNumber("degree", degree)
 
 
@@ -130,12 +131,11 @@ def _net_pair(field, triangle, degree):
     return [number * other_below for number in one], [number * below for number in other]
 
 
-def _is_above_on(field, triangle, nets, path, pair):
+def _is_above_on(field, triangle, nets, path, pair, weak):
     """Whether all corners of a * p + b * q for its own degree are above 0 on the triangle with this path."""
-    (a, bottom), (b, other_bottom) = pair_of(pair[0]), pair_of(pair[1])
-    whole = (a * other_bottom, b * bottom)
-    if not is_weak(whole, weak_direction(field.p, field.q)):
-        return min([whole[0] * x + whole[1] * y for x, y in zip(nets[0], nets[1])]) > 0
-    plane = pair[0] * field.p + pair[1] * field.q
+    (a, b), _ = whole_row([pair_of(number) for number in pair])
+    if not is_weak((a, b), weak):
+        return min([a * x + b * y for x, y in zip(nets[0], nets[1])]) > 0
+    plane = a * field.p + b * field.q
     degree = max(plane.degree(), 0)
     return min(net_along(net_of(plane, triangle, degree)[0], degree, path)) > 0

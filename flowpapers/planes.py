@@ -103,7 +103,7 @@ class Plane:
         parts = [told(number, "number") for number in [*matrix, *shift]]
         (a, b, c, d, e, f), bottom = whole_row(parts)
         rows, below = whole_rows(self.rows)
-        numbers, scale = _moved_whole(rows, (a, b, e), (c, d, f), bottom)
+        numbers, scale = moved_whole(rows, (a, b, e), (c, d, f), bottom, max(self.degree(), 0))
         return _plane_of_numbers(numbers, below * scale)
 
 
@@ -220,12 +220,12 @@ def _scaled(number, bottom, many):
     return number
 
 
-def _moved_whole(rows, over, up, bottom):
+def moved_whole(rows, over, up, bottom, many):
     """A dict (i, j) of integers, and the integer by which they are to be divided: rows of integers, moved.
 
-    over and up are rows (a, b, e) of integers: (a * x + b * y + e) / bottom stands for x or y.
+    over and up are rows (a, b, e) of integers: (a * x + b * y + e) / bottom stands for x or y. The integer by which
+    they are to be divided is bottom to the power of many, which is at least the degree.
     """
-    many = max([i + len(row) for i, row in enumerate(rows)], default=1) - 1
     scales = [1]
     for _ in range(many):
         scales.append(scales[-1] * bottom)

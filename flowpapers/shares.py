@@ -19,7 +19,10 @@ class Table:
         self.used = list(used)
         self.below = 1
         self.rows = [[value] + [1 if k == at else 0 for k in range(many)] for at, value in enumerate(values)]
-        self.rough = [_rough([cost] + list(column)) for cost, column in zip(costs, columns)]
+        full = [[cost] + list(column) for cost, column in zip(costs, columns)]
+        # Places with long numbers have low prices: with these shifts all of them count alike.
+        self.sizes = [max([abs(column[at]) for column in full]).bit_length() for at in range(many + 1)]
+        self.rough = [_rough(column, [-size for size in self.sizes]) for column in full]
 
     def prices(self):
         """The price of each place, times below: at these prices the columns in use are worth their costs."""
@@ -30,7 +33,7 @@ class Table:
     def cheaper(self, many):
         """The index of one of the first columns that costs less than it is worth, None if there is none."""
         scale = [self.below] + [-price for price in self.prices()]
-        rough = _rough(scale)
+        rough = _rough(scale, self.sizes)
         gains = [sum([one * other for one, other in zip(rough, column)]) for column in self.rough[:many]]
         # So far may rough sums be off.
         slack = len(scale) << (ROUGH + 2)
@@ -57,17 +60,17 @@ class Table:
                 place = at
         if place is None:
             return False
-        turned = self.rows[place]
-        weight = weights[place]
-        for at, row in enumerate(list(self.rows)):
-            if at != place:
-                part = weights[at]
-                self.rows[at] = [
-                    (number * weight - part * further) // self.below for number, further in zip(row, turned)
-                ]
+        turned, weight = self.rows[place], weights[place]
+        self.rows = [
+            row if at == place else self._turned(row, weights[at], turned, weight) for at, row in enumerate(self.rows)
+        ]
         self.used[place] = column
         self.below = weight
         return True
+
+    def _turned(self, row, part, turned, weight):
+        """A row less so much of the turned one that nothing of the new column is left in it."""
+        return [(number * weight - part * further) // self.below for number, further in zip(row, turned)]
 
 
 def _gain(scale, cost, column):
@@ -83,9 +86,11 @@ def _is_less(row, weight, other, other_weight):
     return False
 
 
-def _rough(numbers):
-    """A row of integers, all times or divided by the same power of 2, so that the greatest has ROUGH bits."""
-    shift = max([abs(number) for number in numbers]).bit_length() - ROUGH
-    if shift > 0:
-        return [number >> shift for number in numbers]
-    return [number << -shift for number in numbers]
+def _rough(numbers, sizes):
+    """Integers times 2 to the powers of sizes, all divided by such a power of 2 that the greatest has ROUGH bits."""
+    most = max([abs(number).bit_length() + size for number, size in zip(numbers, sizes) if number != 0], default=0)
+    return [_shifted(number, size + ROUGH - most) for number, size in zip(numbers, sizes)]
+
+
+def _shifted(number, bits):
+    return number << bits if bits > 0 else number >> -bits

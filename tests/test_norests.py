@@ -65,7 +65,7 @@ class TestNoRest(NoRestCase):
         self.assertIs(is_restless(field, room, told), True)
         for pair in told.pairs:
             for number in pair:
-                self.assertTrue(papers.is_strict(number))
+                self.assertEqual((type(number), number), (tuple, ref.pair(Fraction(*number))))
         return told
 
     def check_rested(self, field, room):

@@ -117,6 +117,113 @@ class TestRoom(RoomCase):
             self.assert_bad_row(wrong[k], lambda: Room(SQUARE, holes))
 
 
+class TestDrawnRooms(RoomCase):
+    """Rows drawn at random, judged by plain sums of Fractions."""
+
+    def turn(self, a, b, c):
+        return (b[0] - a[0]) * (c[1] - a[1]) - (b[1] - a[1]) * (c[0] - a[0])
+
+    def is_on(self, side, point):
+        (a, b), (x, y) = side, point
+        return self.turn(a, b, point) == 0 and min(a[0], b[0]) <= x <= max(a[0], b[0]) and min(a[1], b[1]) <= y <= max(a[1], b[1])
+
+    def do_meet(self, side, other):
+        (a, b), (c, d) = side, other
+        if any(self.is_on(side, point) for point in other) or any(self.is_on(other, point) for point in side):
+            return True
+        return self.turn(a, b, c) * self.turn(a, b, d) < 0 and self.turn(c, d, a) * self.turn(c, d, b) < 0
+
+    def sides(self, row):
+        return list(zip(row, row[1:] + row[:1]))
+
+    def is_border(self, row):
+        many, sides = len(row), self.sides(row)
+        if any(self.turn(row[k - 2], row[k - 1], row[k]) == 0 for k in range(many)):
+            return False
+        return not any(
+            self.do_meet(sides[k], sides[m]) for k in range(many) for m in range(k + 2, many) if (k, m) != (0, many - 1))
+
+    def where(self, row, point):
+        """1 inside, 0 on the row, -1 beyond: by how often the row crosses what leads up from the point."""
+        if any(self.is_on(side, point) for side in self.sides(row)):
+            return 0
+        many = 0
+        for (a, b), (c, d) in self.sides(row):
+            if (a <= point[0]) != (c <= point[0]) and b + (d - b) * (point[0] - a) / (c - a) > point[1]:
+                many += 1
+        return 1 if many % 2 else -1
+
+    def wrong(self, corners, holes):
+        """The first row for which there is no room, None if there is one."""
+        if not self.is_border(ref.places(corners)):
+            return corners
+        earlier = []
+        for hole in holes:
+            row = ref.places(hole)
+            if not self.is_border(row) or self.where(ref.places(corners), row[0]) != 1:
+                return hole
+            for other in [ref.places(corners)] + earlier:
+                if any(self.do_meet(side, further) for side in self.sides(row) for further in self.sides(other)):
+                    return hole
+            for other in earlier:
+                if self.where(other, row[0]) == 1 or self.where(row, other[0]) == 1:
+                    return hole
+            earlier.append(row)
+        return None
+
+    def drawn(self, numbers, size, many):
+        return tuple((self.number(numbers, size), self.number(numbers, size)) for _ in range(many))
+
+    def number(self, numbers, size):
+        bottom = (1, 1, 2, 3)[next(numbers) % 4]
+        return next(numbers) % (size * bottom + 1), bottom
+
+    def test_by_the_definition(self):
+        numbers = ref.stream(51)
+        found = {"corners": 0, "hole": 0, "none": 0}
+        for _ in range(900):
+            size = 2 + next(numbers) % 5
+            corners = self.drawn(numbers, size, 3 + next(numbers) % 4) if next(numbers) % 3 == 0 else ((0, 0), (size, 0), (size, size), (0, size))
+            holes = tuple(self.drawn(numbers, size, 3 + next(numbers) % 2) for _ in range(next(numbers) % 4))
+            if next(numbers) % 2:
+                holes = tuple(tuple((ref.pair(ref.fraction(x) / 3 + k), ref.pair(ref.fraction(y) / 3 + 1)) for x, y in hole) for k, hole in enumerate(holes))
+            wrong = self.wrong(corners, holes)
+            if wrong is not None:
+                self.assert_bad_row(wrong, lambda: Room(corners, holes))
+                found["corners" if wrong is corners else "hole"] += 1
+                continue
+            room = Room(corners, holes)
+            found["none"] += 1
+            self.assertEqual((len(room.corners), len(room.holes)), (len(corners), len(holes)))
+            rows = [ref.places(corners)] + [ref.places(hole) for hole in holes]
+            self.assertEqual(room.area(), ref.pair((abs(ref.area(rows[0])) - sum(abs(ref.area(row)) for row in rows[1:])) / 2))
+            for place in self.drawn(numbers, size, 6) + corners:
+                point = ref.places((place,))[0]
+                expected = self.where(rows[0], point) >= 0 and all(self.where(row, point) <= 0 for row in rows[1:])
+                self.assertIs(room.has(place), expected)
+        self.assertTrue(min(found.values()) > 80, found)
+
+    def test_greatest_rooms(self):
+        """36 corners in all, with three holes and long numbers."""
+        numbers = ref.stream(52)
+
+        def ring(x, y, size, many):
+            """Corners on a square around a place, moved a little, from below to the right on."""
+            steps = [(k, 0) for k in range(many)] + [(many, k) for k in range(many)]
+            steps += [(many - k, many) for k in range(many)] + [(0, many - k) for k in range(many)]
+            return [tuple(
+                ref.pair(Fraction(base) + Fraction(size * step, many) + Fraction(next(numbers) % 1000, 10 ** 5 + next(numbers)))
+                for base, step in zip((x, y), row)) for row in steps]
+        corners, holes = ring(-50, -50, 90, 3), [ring(-40, -40, 10, 2), ring(0, -40, 20, 2), ring(-20, 10, 15, 2)]
+        room = Room(corners, holes)
+        self.assertEqual(len(room.sides), 36)
+        self.assertIs(room.has((-45, -45)), True)
+        for inside in ((-35, -35), (10, -30), (-12, 18)):
+            self.assertIs(room.has(inside), False)
+        for k, moved in enumerate((ring(-35, -35, 10, 2), ring(45, -40, 20, 2), ring(-19, 11, 13, 2))):
+            self.assert_bad_row(moved, lambda: Room(corners, holes[:k + 1] + [moved]))
+
+
 class TestHas(RoomCase):
 
     def test_points(self):
