@@ -5,7 +5,7 @@ from math import gcd
 from flowpapers.errors import BadNumber, BadRow
 from flowpapers.kinds import is_row, is_strict_ratio
 from flowpapers.ratios import plus, share, times, told
-from flowpapers.wholes import top_power, whole_row
+from flowpapers.wholes import row_product, top_power, whole_row
 
 PRIME = 2305843009213693951
 
@@ -125,15 +125,7 @@ def _sum(one, other):
 def _product(one, other):
     tops, below = whole_row(one.numbers)
     other_tops, other_below = whole_row(other.numbers)
-    many = len(tops) + len(other_tops)
-    return Poly([(_crossed(tops, other_tops, power), below * other_below) for power in range(many)])
-
-
-def _crossed(tops, others, power):
-    """The number of t ** power in the product of two rows of integers."""
-    first = max(0, power + 1 - len(others))
-    last = min(power + 1, len(tops))
-    return sum([tops[step] * others[power - step] for step in range(first, last)])
+    return Poly([(number, below * other_below) for number in row_product(tops, other_tops)])
 
 
 def _divided_whole(tops, others):

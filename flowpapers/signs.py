@@ -2,7 +2,7 @@
 
 from flowpapers.corner_rows import corner_row_on
 from flowpapers.polys import Poly, common
-from flowpapers.spots import closer, is_inside, spots, value_at
+from flowpapers.spots import closer, is_inside, sign_of_integer, spots, value_at
 from flowpapers.wholes import top_power, whole_row
 
 # From here on it is asked whether the other polynomial is 0 at the zero, before it is looked at still closer.
@@ -47,10 +47,3 @@ class Zero:
 def zeros_of(tops):
     """The Zeros from 0 to 1 in ascending order."""
     return [Zero(tops, spot) for spot in spots(tops)]
-
-
-def sign_of_integer(number):
-    """1, 0 or -1."""
-    if number == 0:
-        return 0
-    return 1 if number > 0 else -1

@@ -49,8 +49,8 @@ def closer(tops, spot, bits):
         # A guess among 2 ** wide parts: as often as it is right the number of parts is squared.
         part = _guess(tops, k, m, wide)
         start, fine = (k << wide) + part, m + wide
-        low = left if part == 0 else _sign(value_at(tops, start, fine))
-        high = -left if part + 1 == 1 << wide else _sign(value_at(tops, start + 1, fine))
+        low = left if part == 0 else sign_of_integer(value_at(tops, start, fine))
+        high = -left if part + 1 == 1 << wide else sign_of_integer(value_at(tops, start + 1, fine))
         if low == 0 or high == 0:
             k, m, is_zero = (start if low == 0 else start + 1), fine, True
         elif low == left and high == -left:
@@ -86,7 +86,8 @@ def _both_halves(row, k, m):
     return [(highs, 2 * k + 1, m + 1), *middle, (lows, 2 * k, m + 1)]
 
 
-def _sign(number):
+def sign_of_integer(number):
+    """1, 0 or -1."""
     if number == 0:
         return 0
     return 1 if number > 0 else -1
@@ -98,12 +99,12 @@ def _slope(tops):
 
 def _sign_behind(tops, k, m):
     """The sign just above k / 2 ** m."""
-    return _sign(value_at(tops, k, m)) or _sign(value_at(_slope(tops), k, m))
+    return sign_of_integer(value_at(tops, k, m)) or sign_of_integer(value_at(_slope(tops), k, m))
 
 
 def _sign_ahead(tops, k, m):
     """The sign just below k / 2 ** m."""
-    return _sign(value_at(tops, k, m)) or -_sign(value_at(_slope(tops), k, m))
+    return sign_of_integer(value_at(tops, k, m)) or -sign_of_integer(value_at(_slope(tops), k, m))
 
 
 def _guess(tops, k, m, wide):
