@@ -5,12 +5,19 @@ from heapq import heappop, heappush
 from flowpapers.kinds import is_from
 from flowpapers.nets import bends_of, halved_net, lines_of, most_bent, tips_of
 
+# No tree that is handed in as lists has so many parts.
+ENDLESS = 1000000
+
 
 def is_tree(value, may_have_lists=False):
     """Whether any value is the empty tuple, or (side, one, other) with two trees; lists stand for tuples if told."""
-    todo = [value]
+    todo, many = [value], 0
     while todo:
         tree = todo.pop()
+        many = many + 1
+        # A list may hold itself: then it goes on for ever, and is no tree.
+        if may_have_lists and many > ENDLESS:
+            return False
         if not isinstance(tree, tuple) and not (may_have_lists and isinstance(tree, list)):
             return False
         if len(tree) not in (0, 3):

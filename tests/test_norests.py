@@ -247,6 +247,12 @@ class TestRising(NoRestCase):
             found[type(told)] += 1
         self.assertTrue(min(found.values()) > 8, found)
 
+    def test_a_list_that_holds_itself(self):
+        endless = [0, (), ()]
+        endless[1] = endless
+        row = [endless, ()]
+        self.assert_bad(BadRow, {"row": row}, lambda: rising(field_of("1", "0"), UNIT, row, 1))
+
     def test_lists(self):
         trees = ((0, (), (1, (), ())), ())
         field = field_of("1 + x", "y^2")
